@@ -1,0 +1,1 @@
+"""Pointyard: trains on pieces of rail, ways set for them, and who waits for whom."""
