@@ -34,12 +34,27 @@ class Box:
     def is_free(self, piece):
         return self.keepers[piece] is None
 
+    # Asked of any whole number: one below nought would index the list from its end.
+    def has_piece(self, piece):
+        return piece >= 0 and piece < len(self.yard)
+
+    def has_train(self, number):
+        return number >= 0 and number < len(self.trains) and self.trains[number] is not None
+
+    def has_way(self, number, way):
+        return way >= 0 and way < len(self.ways_of(number))
+
+    def ways_of(self, number):
+        return self.yard[self.trains[number].head()][1]
+
     def steps_of(self, number, way):
-        ways = self.yard[self.trains[number].head()][1]
-        return ways[way]
+        return self.ways_of(number)[way]
 
     def is_waiting(self, number):
         return number in [train for train, way in self.waits]
+
+    def is_busy(self, number):
+        return self.is_waiting(number) or len(self.trains[number].ahead) > 0
 
     # `claimed` has the pieces of the ways of those that wait ahead.
     def is_barred(self, steps, claimed):

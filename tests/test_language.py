@@ -71,6 +71,17 @@ def bound_names(tree):
             yield node.name
 
 
+def names_at_the_top(tree):
+    """Names that the file itself defines, each as often as it does so."""
+    found = []
+    for node in tree.body:
+        if isinstance(node, (ast.FunctionDef, ast.ClassDef)):
+            found.append(node.name)
+        elif isinstance(node, ast.Assign):
+            found += [target.id for target in node.targets]
+    return found
+
+
 class LanguageTest(unittest.TestCase):
     def test_only_plain_files_lie_in_the_package(self):
         lying = [path for path in PACKAGE.rglob("*") if "__pycache__" not in path.parts]
@@ -133,6 +144,40 @@ class LanguageTest(unittest.TestCase):
                     self.assertEqual(node.level, 0)
                     self.assertTrue(node.module.startswith("pointyard."), node.module)
                     self.assertNotIn("*", [alias.name for alias in node.names])
+
+    def test_imports_are_from_the_file_that_defines_the_name_and_in_no_circle(self):
+        drawn = {}
+        for path, tree in zip(sources(), trees()):
+            rows = [node for node in tree.body if isinstance(node, ast.ImportFrom)]
+            drawn[path.stem] = [row.module.split(".")[-1] for row in rows]
+            for row in rows:
+                origin = PACKAGE / (row.module.split(".")[-1] + ".py")
+                defined = names_at_the_top(ast.parse(origin.read_text(encoding="utf-8")))
+                for alias in row.names:
+                    self.assertIsNone(alias.asname)
+                    self.assertIn(alias.name, defined)
+        while drawn:
+            ready = [name for name in drawn if not any(other in drawn for other in drawn[name])]
+            self.assertNotEqual(ready, [], drawn)
+            drawn.pop(ready[0])
+
+    def test_the_top_of_a_file(self):
+        for tree in trees():
+            for node in tree.body:
+                docstring = isinstance(node, ast.Expr) and isinstance(node.value, ast.Constant)
+                plain = isinstance(node, (ast.ImportFrom, ast.FunctionDef, ast.ClassDef, ast.Assign))
+                self.assertTrue(docstring or plain)
+            tops = names_at_the_top(tree)
+            imported = [alias.name for node in tree.body if isinstance(node, ast.ImportFrom) for alias in node.names]
+            self.assertEqual(len(tops + imported), len(set(tops + imported)))
+            classes = [node.name for node in tree.body if isinstance(node, ast.ClassDef)]
+            for node in ast.walk(tree):
+                if isinstance(node, ast.arg):
+                    self.assertNotIn(node.arg, imported + classes)
+                elif isinstance(node, ast.Name) and isinstance(node.ctx, ast.Store):
+                    self.assertNotIn(node.id, imported + classes)
+                elif isinstance(node, (ast.Global, ast.Nonlocal)):
+                    self.fail("a name of the file's top is given another value")
 
     def test_names(self):
         for tree in trees():
